@@ -1,0 +1,1 @@
+"""Yardhall, layer d: times. The calls are answered by yardtimes.yard.answers."""
