@@ -4,7 +4,7 @@ import itertools
 import random
 import unittest
 
-from tests.helper import diamonds, lines
+from tests.helper import diamonds, joined_at_random, lines
 from yardtimes.plan import Plan
 from yardtimes.reading import take_text
 from yardtimes.routes import routes_of
@@ -122,18 +122,7 @@ def expected(plan):
 
 def some_plan(source):
     kinds = [source.choice(("plain", "plain", "point", "cross")) for number in range(source.randint(1, 16))]
-    ends = [(f"S{number}.{end}", kind) for number, kind in enumerate(kinds)
-            for end in range({"plain": 2, "point": 3, "cross": 4}[kind])]
-    source.shuffle(ends)
-    told = [f"{kind} S{number}" for number, kind in enumerate(kinds)]
-    signals = []
-    while len(ends) > 1:
-        first, second = ends.pop(), ends.pop()
-        if source.random() < 0.85:
-            told.append(f"join {first[0]} {second[0]}")
-            signals += [f"signal {end}" for end, kind in (first, second) if kind == "plain"]
-        elif first[1] == "plain":
-            told.append(f"border {first[0]}")
+    told, signals = joined_at_random(source, kinds, 0.85)
     return told + source.sample(signals, min(len(signals), source.randint(0, 12)))
 
 

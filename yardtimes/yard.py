@@ -3,12 +3,16 @@
 from yardtimes.plan import Plan
 from yardtimes.reading import take_text
 from yardtimes.routes import routes_of
+from yardtimes.rows import chain_of, ends_of, row_of, slack_of
+from yardtimes.search import Search, best_row, has_too_many_rows
 
 MOST_BYTES = 1024
 MOST_ROUTES = 64
 LAST_TRAIN = 2
 LONGEST_TIME = 1000
 LATEST_READY = 1000000
+MOST_MOVES = 64
+MOST_PLANNED = 5
 
 
 class NoSuchCall(ValueError):
@@ -72,6 +76,56 @@ class Yard:
         self.ready_times[train] = time
         return [0]
 
+    def times(self, told):
+        row = row_of(self, told)
+        refusal = row_refusal(row, told)
+        if refusal is not None:
+            return refusal
+        answer = [row.done]
+        for begin, end in zip(row.begins, ends_of(row)):
+            answer.extend([begin, end])
+        return answer
+
+    def slack(self, number, told):
+        row = row_of(self, told)
+        refusal = row_refusal(row, told)
+        if refusal is not None:
+            return refusal
+        if number >= len(row.moves):
+            return [-4]
+        return [slack_of(row, number)]
+
+    def chain(self, told):
+        row = row_of(self, told)
+        refusal = row_refusal(row, told)
+        if refusal is not None:
+            return refusal
+        chain = chain_of(row)
+        return [len(chain)] + chain
+
+    def best(self, wanted, most):
+        if max(wanted) > len(self.plan.kinds) + 1 or most > MOST_PLANNED:
+            return [-1]
+        search = Search(self, wanted)
+        if has_too_many_rows(search, most):
+            return [-8]
+        row = best_row(search, most)
+        if row is None:
+            return [-3]
+        answer = [row.done, len(row.moves)]
+        for move in row.moves:
+            answer.extend([move.train, move.what])
+        return answer
+
+
+def row_refusal(row, told):
+    """None, or what is answered if the moves told are too many, or more than the row that can be made of them."""
+    if len(told) % 2 != 0 or len(told) > 2 * MOST_MOVES:
+        return [-1]
+    if 2 * len(row.moves) < len(told):
+        return [-3, len(row.moves)]
+    return None
+
 
 class Source:
     """Gives out a list's numbers, one behind another, and leaves the list as it is."""
@@ -105,6 +159,16 @@ def answer_next(yard, source):
     if call == 3:
         told = source.take(2)
         return yard.ready(told[0], told[1])
+    if call == 4:
+        return yard.times(source.take_row())
+    if call == 5:
+        number = source.take(1)[0]
+        return yard.slack(number, source.take_row())
+    if call == 6:
+        return yard.chain(source.take_row())
+    if call == 7:
+        told = source.take(4)
+        return yard.best(told[:3], told[3])
     raise NoSuchCall(f"there is no call {call}")
 
 
